@@ -1,0 +1,55 @@
+"""Some rules of LANGUAGE.md that are easily broken unseen, over every file of the package."""
+
+import ast
+import re
+import unittest
+from pathlib import Path
+
+PACKAGE = Path(__file__).resolve().parent.parent / "stairsum"
+FILES = sorted(PACKAGE.glob("*.py"))
+BARRED = re.compile(
+    r"\b(type|typing|typing_extensions|enum|Enum|IntEnum|StrEnum|Flag|IntFlag|Generic|Protocol|ABC|ABCMeta|namedtuple"
+    r"|NamedTuple|TypedDict|TYPE_CHECKING|abstractmethod)\b|dataclass|overload|contextmanager")
+
+
+class Language(unittest.TestCase):
+
+    def test_the_folder_has_plain_python_files_only(self):
+        names = [path.name for path in PACKAGE.iterdir() if path.name != "__pycache__"]
+        self.assertIn("__init__.py", names)
+        for name in names:
+            self.assertTrue(name == "__init__.py" or re.fullmatch(r"[a-z][a-z0-9_]*\.py", name), name)
+
+    def test_signs_and_sizes(self):
+        for path in FILES:
+            text = path.read_bytes().decode("utf-8")
+            self.assertTrue(all(sign == "\n" or " " <= sign <= "~" for sign in text), path)
+            self.assertTrue(text.count("\n") <= 400, path)
+            self.assertTrue(all(len(line) <= 120 for line in text.split("\n")), path)
+            self.assertIsNone(BARRED.search(text), path)
+
+    def test_functions_are_short(self):
+        for path in FILES:
+            for node in ast.walk(ast.parse(path.read_text())):
+                if isinstance(node, ast.FunctionDef):
+                    self.assertTrue(node.end_lineno - node.lineno < 40, (path, node.name))
+
+    def test_imports_are_of_the_package_by_full_names(self):
+        for path in FILES:
+            for node in ast.walk(ast.parse(path.read_text())):
+                self.assertNotIsInstance(node, ast.Import, path)
+                if isinstance(node, ast.ImportFrom):
+                    self.assertEqual(node.level, 0, path)
+                    self.assertTrue(node.module.startswith("stairsum."), path)
+
+    def test_numbers_and_strings(self):
+        for path in FILES:
+            for node in ast.walk(ast.parse(path.read_text())):
+                self.assertNotIsInstance(node, ast.Div, path)
+                if isinstance(node, ast.Constant):
+                    self.assertNotIsInstance(node.value, float, path)
+                    self.assertFalse(isinstance(node.value, str) and chr(37) in node.value, path)
+
+
+if __name__ == "__main__":
+    unittest.main()
