@@ -28,10 +28,8 @@ def heights(stair, k, n):
     return [(a * place + b) // m for place in range(k, k + n)]
 
 
-def sum_of(stair, n):
-    """The sum of the heights at the places 0 to n - 1."""
-    need_stair(stair)
-    need_count(n)
+def height_sum(stair, n):
+    """The sum of the heights at the places 0 to n - 1, also of more places than a count may tell."""
     a, b, m = stair
     many = n
     total = 0
@@ -43,3 +41,10 @@ def sum_of(stair, n):
         # the top down, the same points are the heights of a stair with a and m exchanged.
         many, a, b, m = top, m, over, rise_left
     return total
+
+
+def sum_of(stair, n):
+    """The sum of the heights at the places 0 to n - 1."""
+    need_stair(stair)
+    need_count(n)
+    return height_sum(stair, n)

@@ -1,6 +1,7 @@
 """Some rules of LANGUAGE.md that are easily broken unseen, over every file of the package."""
 
 import ast
+import builtins
 import re
 import unittest
 from pathlib import Path
@@ -10,6 +11,16 @@ FILES = sorted(PACKAGE.glob("*.py"))
 BARRED = re.compile(
     r"\b(type|typing|typing_extensions|enum|Enum|IntEnum|StrEnum|Flag|IntFlag|Generic|Protocol|ABC|ABCMeta|namedtuple"
     r"|NamedTuple|TypedDict|TYPE_CHECKING|abstractmethod)\b|dataclass|overload|contextmanager")
+
+BUILTINS = """
+    len range enumerate zip min max sum abs sorted reversed int str bool bytes list tuple dict set frozenset
+    isinstance ord repr any all divmod Exception ValueError TypeError KeyError IndexError LookupError ZeroDivisionError
+    ArithmeticError OverflowError RuntimeError NotImplementedError AttributeError StopIteration NotImplemented
+    """.split()
+
+
+def nodes_of(path):
+    return list(ast.walk(ast.parse(path.read_text())))
 
 
 class Language(unittest.TestCase):
@@ -49,6 +60,35 @@ class Language(unittest.TestCase):
                 if isinstance(node, ast.Constant):
                     self.assertNotIsInstance(node.value, float, path)
                     self.assertFalse(isinstance(node.value, str) and chr(37) in node.value, path)
+
+    def test_only_the_listed_builtins_are_read_and_none_is_given_another_meaning(self):
+        for path in FILES:
+            for node in nodes_of(path):
+                if isinstance(node, ast.Name) and hasattr(builtins, node.id):
+                    self.assertIn(node.id, BUILTINS, path)
+                    self.assertIsInstance(node.ctx, ast.Load, (path, node.id))
+                if isinstance(node, ast.arg):
+                    self.assertFalse(hasattr(builtins, node.arg), (path, node.arg))
+                if isinstance(node, ast.FunctionDef):
+                    self.assertFalse(hasattr(builtins, node.name), (path, node.name))
+
+    def test_names_are_plain_and_no_import_is_given_another_meaning(self):
+        for path in FILES:
+            nodes = nodes_of(path)
+            imported = [name.name for node in nodes if isinstance(node, ast.ImportFrom) for name in node.names]
+            bound = [node.id for node in nodes if isinstance(node, ast.Name) and isinstance(node.ctx, ast.Store)]
+            bound += [node.arg for node in nodes if isinstance(node, ast.arg)]
+            bound += [node.name for node in nodes if isinstance(node, (ast.FunctionDef, ast.ClassDef))]
+            for name in bound:
+                self.assertNotIn(name, imported, path)
+                self.assertTrue(re.fullmatch(r"[A-Za-z][A-Za-z0-9_]*|__[a-z]+__", name), (path, name))
+
+    def test_powers_have_a_literal_exponent(self):
+        for path in FILES:
+            for node in nodes_of(path):
+                if isinstance(node, ast.BinOp) and isinstance(node.op, ast.Pow):
+                    self.assertIsInstance(node.right, ast.Constant, path)
+                    self.assertTrue(0 <= node.right.value <= 64, path)
 
 
 if __name__ == "__main__":
