@@ -1,7 +1,7 @@
 """Where a stair's rests lie within bounds: the first place, the next one, and the one of a number."""
 
 from stairsum.counts import many_within, need_bounds
-from stairsum.stairs import need_stair
+from stairsum.stairs import begun_at, need_stair
 from stairsum.sums import need_count
 
 
@@ -45,8 +45,7 @@ def first_within(stair, low, high):
 
 def next_within(stair, low, high, k):
     """The least place from k on that is within the bounds, or None."""
-    a, b, m = stair
-    on = first_within((a, a * k + b, m), low, high)
+    on = first_within(begun_at(stair, k), low, high)
     return None if on is None else k + on
 
 

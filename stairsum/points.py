@@ -6,7 +6,7 @@ a x + b y + c is above 0 for the points (x, y) at its left hand, and 0 on it.
 
 from stairsum.errors import NoRing
 from stairsum.hits import up_divided
-from stairsum.stairs import common_divisor, height, is_whole, least
+from stairsum.stairs import begun_at, common_divisor, height, is_whole, least
 from stairsum.sums import height_sum
 
 FEWEST_CORNERS = 3
@@ -105,8 +105,7 @@ def points_over(side):
     """What the side adds to the number of points at the whole x from its left end on, ahead of its right end."""
     left, right, is_top, stair = side
     begin, end = up_divided(left[0], left[1]), up_divided(right[0], right[1])
-    a, b, m = stair
-    reach = height_sum((a, a * begin + b, m), end - begin)
+    reach = height_sum(begun_at(stair, begin), end - begin)
     # From the least y to the greatest one there is one point more than the two are apart.
     return reach + end - begin if is_top else reach
 

@@ -61,6 +61,12 @@ def alike(one, other):
     return least(one) == least(other)
 
 
+def begun_at(stair, k):
+    """The stair that has at each place the height that the given one has k places further on."""
+    a, b, m = stair
+    return (a, a * k + b, m)
+
+
 def split(stair):
     """The tuple (rise, begin, rest) of which the stair's heights are put together."""
     need_stair(stair)

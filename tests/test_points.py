@@ -77,7 +77,7 @@ EDGE_RINGS = [
     [(-HALF, -5), (HALF, -5), (HALF, 5), (-HALF, 5)], [(0, 0), (1, 0), (1, 1), (0, 1)], [(0, 0), (3, 0), (3, 4)],
     [(0, 0), (1, 0), (0, 1)], [(-1, -1), (1, -1), (1, 1), (-1, 1)], [(0, THIRD), (3, THIRD), (3, 2 * THIRD)],
     [(-3, 0), (0, -3), (3, 0), (0, 3)], [(-HALF, 0), (0, -HALF), (HALF, 0), (0, HALF)],
-    [(2, -7), (Fraction(9, 4), 0), (2, 7)], [(0, 0), (-1, Fraction(8)), (-1, 7)], [(5, 5), (Fraction(51, 10), 5), (5, 6)],
+    [(2, -7), (Fraction(9, 4), 0), (2, 7)], [(0, 0), (-1, 8), (-1, 7)], [(5, 5), (Fraction(51, 10), 5), (5, 6)],
     [(THIRD, 0), (9, Fraction(17, 2)), (THIRD, HALF)], [(-5, THIRD), (5, -THIRD), (5, 0), (-5, HALF)],
 ]
 ROUND = [(k, k * k) for k in range(-10, 10)]
@@ -272,6 +272,15 @@ class NotRings(unittest.TestCase):
         self.check(ring_of([(0, 0), (4, 4), (4, 0), (0, 4)]))
         self.check(ring_of([(0, 0), (4, 0), (1, 1), (0, 4)]))
         self.check(ring_of([(0, 0), (4, 0), (4, 4), (3, 1)]))
+
+    def test_what_is_no_list_of_corners(self):
+        good = ring_of([(0, 0), (4, 0), (0, 4)])
+        for part in [((2, 2), (0, 1)), ((4, 1), (0, 3)), ((4, 0), (0, 1)), ((4, -1), (0, 1)), ((4, 1),), ((4, 1), 0),
+                     ((4, True), (0, 1)), ((4, 1), (False, 1)), ((4, 1), (0, 1), (0, 1)), ((4,), (0, 1)), (4, 0), None,
+                     [(4, 1), (0, 1)], ([4, 1], (0, 1)), "41", (("4", 1), (0, 1)), ((4, 1, 1), (0, 1))]:
+            self.check([good[0], part, good[2]])
+        for thing in (None, True, 0, "", tuple(good), good[0], (good,)):
+            self.check(thing)
 
     def test_just_off_the_line(self):
         tiny = Fraction(1, 10 ** 99)
